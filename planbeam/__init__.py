@@ -1,0 +1,1 @@
+"""Weighings by a plan."""
