@@ -12,15 +12,15 @@ class CallReader:
         """Whether no call is left."""
         return self.place >= len(self.calls)
 
-    def number(self):
+    def next_number(self):
         """The number that is next."""
         place = self.place
         self.place = place + 1
         return self.calls[place]
 
-    def row(self):
+    def next_row(self):
         """The row that is next, as a list of its own, without the number that says how long it is."""
-        length = self.number()
+        length = self.next_number()
         start = self.place
         self.place = start + length
         return self.calls[start:start + length]

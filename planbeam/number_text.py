@@ -1,4 +1,4 @@
-"""Reads a number that is handed over as a text, which is a list of bytes."""
+"""The texts of numbers, which are lists of bytes: reads those that are handed over, writes exact ones."""
 
 from planbeam.ratio import Ratio
 
@@ -61,3 +61,11 @@ def read_number(text):
     if size is None or start == 0:
         return size
     return Ratio(-size.top, size.bottom)
+
+
+def exact_text(ratio):
+    """The exact text of a ratio."""
+    text = str(ratio.top)
+    if ratio.bottom != 1:
+        text = text + "/" + str(ratio.bottom)
+    return [ord(sign) for sign in text]

@@ -1,7 +1,7 @@
 """Plans: the loads of the steps, and how much the reading of each step counts."""
 
 from planbeam.number_text import read_number
-from planbeam.ratio import common_factor
+from planbeam.ratio import Ratio, common_factor
 
 MOST_STEPS = 64
 HIGHEST_LOAD = 15
@@ -14,11 +14,16 @@ BOTTOM_LIMIT = 4294967296
 
 
 class Plan:
-    """A right plan: a load and a count for each step."""
+    """A right plan: for each step its load, and the numerator of its count over one denominator for all."""
 
-    def __init__(self, loads, counts):
+    def __init__(self, loads, tops, bottom):
         self.loads = loads
-        self.counts = counts
+        self.tops = tops
+        self.bottom = bottom
+
+    def comes_out(self, load):
+        """How much of a load comes out."""
+        return Ratio(sum([self.tops[step] for step in range(len(self.tops)) if self.loads[step] == load]), self.bottom)
 
 
 def split_at_blanks(text):
@@ -58,18 +63,18 @@ def loads_fit(loads):
     return 1 <= len(loads) <= MOST_STEPS and max(loads) <= HIGHEST_LOAD
 
 
-def common_tops(counts):
-    """The numerators of the counts over one denominator."""
+def common_bottom(counts):
+    """The least denominator that all counts can be written over."""
     common = 1
     for count in counts:
         common = common * count.bottom // common_factor(common, count.bottom)
-    return [count.top * (common // count.bottom) for count in counts]
+    return common
 
 
-def drift_goes_out(counts, degree):
-    """Whether the counts take out each drift that is a polynomial of that degree."""
-    # Over one denominator the numerators add up to 0 just where the counts do, and stay whole.
-    terms = common_tops(counts)
+def drift_goes_out(tops, degree):
+    """Whether counts with these numerators over one denominator take out each drift of that degree."""
+    # The numerators add up to 0 just where the counts do, and stay whole.
+    terms = tops
     for power in range(degree + 1):
         if sum(terms) != 0:
             return False
@@ -86,6 +91,8 @@ def read_plan(degree, loads, counts_text):
     counts = read_counts(counts_text)
     if counts is None or len(counts) != len(loads):
         return None
-    if not drift_goes_out(counts, degree):
+    bottom = common_bottom(counts)
+    tops = [count.top * (bottom // count.bottom) for count in counts]
+    if not drift_goes_out(tops, degree):
         return None
-    return Plan(loads, counts)
+    return Plan(loads, tops, bottom)

@@ -19,3 +19,15 @@ class Ratio:
         shared = common_factor(abs(top), bottom)
         self.top = top // shared
         self.bottom = bottom // shared
+
+    def plus(self, other):
+        """The sum of both."""
+        return Ratio(self.top * other.bottom + other.top * self.bottom, self.bottom * other.bottom)
+
+    def times(self, other):
+        """The product of both."""
+        return Ratio(self.top * other.top, self.bottom * other.bottom)
+
+    def size(self):
+        """The same without its sign."""
+        return Ratio(abs(self.top), self.bottom)

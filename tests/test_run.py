@@ -1,17 +1,51 @@
-"""The document's own run, as far as begin, take, state and reading go, and other ordinary lists."""
+"""The document's own run, and other ordinary lists of begin, take, state and reading."""
 
 import unittest
 
 from planbeam.weighing import answers
-from tests.helper import STATE, begin, line, reading, run, take
+from tests.helper import STATE, begin, comes, line, reading, run, says, says_all, take, told
 
 PLAN = begin([0, 1, 1, 0], "-1/2 1/2 1/2 -1/2", 1)
 
 
 class DocumentRun(unittest.TestCase):
+    UNDER_WAY = [PLAN, take(1000), take(1503), take(1505)]
+    FINISHED = UNDER_WAY + [take(1006)]
+
     def test_answers_of_the_run(self):
-        given = run(PLAN, take(1000), take(1503), take(1505), STATE, take(1006))
-        self.assertEqual(given, [[0], [0], [0], [0], [0, 4, 3, 0], [0]])
+        asked = says_all("1/1000", "0", "1/2", "1/12")
+        given = run(*self.UNDER_WAY, asked[0], STATE, take(1006), comes(0), comes(1), *asked)
+        self.assertEqual(given, [
+            [0], [0], [0], [0], [-5], [0, 4, 3, 0], [0], told("-1"), told("1"),
+            told("501/1000"), told("1/1000"), told("1/12000000"),
+        ])
+
+    def test_answers_with_a_bound_for_the_worth(self):
+        given = run(*self.FINISHED, *says_all("1/1000", "1/1000000", "1/2", "1/12"))
+        # 501 divisions, 1 of reach: 1/12000000 + (501/1000000)**2 / 3 + (1/1000000)**2 / 3
+        self.assertEqual(given[5:], [told("501/1000"), told("751/500000"), told("250501/1500000000000")])
+
+    def test_end_of_the_run_as_it_is_given_back(self):
+        calls = line(*self.FINISHED, comes(0), says(1, "1/1000", "1/1000000", "1/2", "1/12"), STATE)
+        self.assertEqual(answers(calls)[10:], [
+            3, 2, 45, 49,
+            11, 10, 55, 53, 49, 47, 53, 48, 48, 48, 48, 48,
+            4, 0, 4, 4, -1,
+        ])
+
+    def test_end_of_the_run_as_it_is_handed_in(self):
+        calls = line(*self.FINISHED) + [
+            5, 1,
+            6, 0, 6, 49, 47, 49, 48, 48, 48, 1, 48, 3, 49, 47, 50, 4, 49, 47, 49, 50,
+            4, 3,
+            2,
+        ]
+        self.assertEqual(answers(calls)[10:], [
+            2, 1, 49,
+            9, 8, 53, 48, 49, 47, 49, 48, 48, 48,
+            1, 0,
+            4, 0, 4, 3, 0,
+        ])
 
     def test_list_as_it_is_given_back(self):
         calls = line(PLAN, take(1000), take(1503), STATE, reading(1), reading(2))
@@ -23,6 +57,7 @@ class DocumentRun(unittest.TestCase):
 
     def test_whole_numbers_and_lists(self):
         given = answers(line(PLAN, take(5), STATE, reading(0), reading(1)))
+        given += answers(line(*self.FINISHED, comes(0), comes(16), *says_all("2", "1", "1", "1")))
         self.assertIs(type(given), list)
         self.assertEqual({type(number) for number in given}, {int})
 
